@@ -1,0 +1,1 @@
+"""Plantrace: production planning, traceability and exact recall analysis."""

@@ -27,6 +27,19 @@ def values_at(curve, points):
     ]
 
 
+def member(transient, period, at):
+    """The member at this place of a sequence that repeats the period behind the transient part."""
+    if at < len(transient):
+        return transient[at]
+    return period[(at - len(transient)) % len(period)]
+
+
+def increment(curve, k):
+    """Increment k of the curve."""
+    _, transient, period = curve
+    return member(transient, period, k)
+
+
 def increments(curve, many):
     """The first increments of the curve, as a list."""
     _, transient, period = curve

@@ -116,6 +116,36 @@ class Maker:
         """A routing of the sizes of point 40."""
         return self.entries(0, 4, high), self.entries(1, 4, high)
 
+    def feed(self, buffer):
+        """An input that reads the buffer."""
+        stock, tool = self.number(0, 4), self.choice((True, False, False))
+        return buffer, self.flow(high=1 if tool else 4), stock, tool
+
+    def source(self, waiting, numbers):
+        """A buffer that an earlier stage writes and none reads, or a new one."""
+        return waiting.pop() if waiting and self.number(0, 1) else numbers.pop()
+
+    def plant(self):
+        """A right plant of the sizes of point 61, with buffers numbered in any order."""
+        numbers = self.random.sample(range(20), 20)
+        waiting, stages = [], []
+        for _ in range(self.number(1, 4)):
+            most = 3 if len(numbers) > 6 else 1
+            read = [self.source(waiting, numbers) for _ in range(self.number(1, most))]
+            feeds = tuple(self.feed(buffer) for buffer in read)
+            written = [numbers.pop() for _ in range(self.number(1, most))]
+            outputs = tuple((buffer, self.flow(), self.number(0, 5)) for buffer in written)
+            waiting.extend(written)
+            self.random.shuffle(waiting)
+            stages.append((feeds, outputs, (0, (), (1,)), (0, (), (2,)), self.number(1, 3), (0, (), (1, 0))))
+        return tuple(stages)
+
+    def receipts(self, plant, high):
+        """Receipts of some materials of the plant, in any order."""
+        known = sorted(sources(plant))
+        self.random.shuffle(known)
+        return tuple((material, self.number(0, high)) for material in known if self.number(0, 7))
+
 
 def longer(curve, rounds, turns):
     """The same curve, written longer than need be."""
@@ -123,3 +153,73 @@ def longer(curve, rounds, turns):
     for k in range(turns):
         transient, period = transient + period[:1], period[1:] + period[:1]
     return initial, transient, period * rounds
+
+
+def readers(plant):
+    """The pairs (stage, buffer) of all inputs."""
+    return [(number, feed[0]) for number, stage in enumerate(plant) for feed in stage[0]]
+
+
+def writers(plant):
+    """The pairs (stage, buffer) of all outputs."""
+    return [(number, output[0]) for number, stage in enumerate(plant) for output in stage[1]]
+
+
+def sources(plant):
+    """The materials of a plant."""
+    return {buffer for _, buffer in readers(plant)} - {buffer for _, buffer in writers(plant)}
+
+
+class Floor:
+    """A plant that is run unit by unit: in front of each input wait the numbers of positions."""
+
+    def __init__(self, plant):
+        self.plant = plant
+        self.totals = {buffer: 0 for _, buffer in readers(plant) + writers(plant)}
+        self.cycles = [0] * len(plant)
+        self.queues = [[list(range(1, feed[2] + 1)) for feed in stage[0]] for stage in plant]
+
+    def enter(self, buffer):
+        """One unit enters the buffer."""
+        self.totals[buffer] += 1
+        for stage, queues in zip(self.plant, self.queues):
+            for feed, queue in zip(stage[0], queues):
+                if feed[0] == buffer:
+                    queue.append(feed[2] + self.totals[buffer])
+
+    def can_run(self, number):
+        """True if enough units wait for the next cycle of the stage."""
+        feeds, n = self.plant[number][0], self.cycles[number]
+        return all(len(queue) >= step(feed[1], n) for feed, queue in zip(feeds, self.queues[number]))
+
+    def run(self, number):
+        """The next cycle of the stage."""
+        feeds, outputs, n = self.plant[number][0], self.plant[number][1], self.cycles[number]
+        for feed, queue in zip(feeds, self.queues[number]):
+            del queue[:step(feed[1], n)]
+        for buffer, production, _ in outputs:
+            for _ in range(step(production, n)):
+                self.enter(buffer)
+        self.cycles[number] += 1
+
+    def is_too_much(self):
+        return max(self.cycles) > 1000 or max(self.totals.values()) > 1000
+
+    def complete(self, receipts, maker=None):
+        """Receives all units and runs all that can be run, in any order with a maker."""
+        units = [material for material, many in receipts for _ in range(many)]
+        if maker:
+            maker.random.shuffle(units)
+        while not self.is_too_much():
+            ready = [number for number in range(len(self.plant)) if self.can_run(number)]
+            if units and (not ready or maker and maker.number(0, 1)):
+                self.enter(units.pop())
+            elif ready:
+                self.run(maker.choice(ready) if maker else ready[0])
+            else:
+                break
+
+    def outcome(self):
+        """What the document calls the triple of the completion."""
+        hands = tuple(tuple(len(queue) for queue in queues) for queues in self.queues)
+        return tuple(self.cycles), tuple(sorted(self.totals.items())), hands

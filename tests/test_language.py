@@ -37,6 +37,11 @@ INTERFACE = {
     "inverses": "lower_at upper_at lower_inverse upper_inverse",
     "deviations": "vertical horizontal last_exceedance first_above",
     "convolutions": "max_plus min_plus best_split",
+    "routings": "branch normal_routing shares from_shares",
+    "allocation": "optimal_routing optimal_output first_loss",
+    "stages": "supports supported produced producing_cycle taken held use",
+    "plants": "check_plant buffers materials products depends",
+    "completion": "completed runnable is_balanced",
 }
 
 

@@ -16,10 +16,15 @@ def completed(plant, receipts):
         many = supported(stage, totals_read(stage, totals))
         cycles.append(many)
         totals.update(totals_written(stage, many))
-    if max(cycles) > MOST or max(totals.values()) > MOST:
-        raise TooMuch("too many cycles or units on completion")
+    require_at_most(MOST, cycles, totals)
     hands = [on_hand(stage, totals, many) for stage, many in zip(plant, cycles)]
     return tuple(cycles), tuple(sorted(totals.items())), tuple(hands)
+
+
+def require_at_most(most, cycles, units):
+    """Raises TooMuch if a stage has more cycles, or some buffer more units, than told."""
+    if max(cycles) > most or max(units.values()) > most:
+        raise TooMuch(f"more than {most} cycles of a stage or units of a buffer")
 
 
 def received(plant, receipts):
@@ -38,6 +43,14 @@ def totals_written(stage, many):
     return {buffer: value(production, many) for buffer, production, _ in stage[OUTPUTS]}
 
 
+def totals_behind(plant, receipts, cycles):
+    """The totals of all buffers with these receipts when the stages have run these cycles."""
+    totals = received(plant, receipts)
+    for stage, many in zip(plant, cycles):
+        totals.update(totals_written(stage, many))
+    return totals
+
+
 def on_hand(stage, totals, many):
     """The units on hand in front of the stage's inputs when it has run so many cycles."""
     return tuple([
@@ -48,9 +61,7 @@ def on_hand(stage, totals, many):
 
 def runnable(plant, receipts, cycles):
     """The numbers of the stages that are runnable when the stages have run these cycles."""
-    totals = received(plant, receipts)
-    for stage, many in zip(plant, cycles):
-        totals.update(totals_written(stage, many))
+    totals = totals_behind(plant, receipts, cycles)
     return tuple([
         number for number, (stage, many) in enumerate(zip(plant, cycles))
         if supported(stage, totals_read(stage, totals)) > many

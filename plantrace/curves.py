@@ -10,6 +10,8 @@ from math import gcd, lcm
 INITIAL = 0
 TRANSIENT = 1
 PERIOD = 2
+ZERO = (0, (), (0,))
+IDENTITY = (0, (), (1,))
 
 
 def value(curve, x):
@@ -168,7 +170,7 @@ def reduced(curve, k):
     if curve[INITIAL] >= k:
         return raised(curve, -k)
     if not is_unbounded(curve) and value(curve, len(curve[TRANSIENT])) <= k:
-        return 0, (), (0,)
+        return ZERO
     at = reaching(curve, k)
     height, transient, period = advanced(curve, at)
     return normal((0, (0,) * (at - 1) + (height - k,) + transient, period))
@@ -195,14 +197,20 @@ def last_above(slower, faster):
     return last
 
 
+def crossing(first, second):
+    """The last point at which the slower one of the curves is above the other one, or None."""
+    if is_slower(first, second):
+        return last_above(first, second)
+    if is_slower(second, first):
+        return last_above(second, first)
+    return None
+
+
 def settled(first, second):
     """A pair: from where on minimum and maximum are periodic, and with which period."""
     start, common = reach((first, second))
-    slower, faster = (second, first) if is_slower(second, first) else (first, second)
-    if is_slower(slower, faster):
-        last = last_above(slower, faster)
-        start = start if last is None else max(start, last + 1)
-    return start, common
+    last = crossing(first, second)
+    return start if last is None else max(start, last + 1), common
 
 
 def minimum(first, second):
@@ -224,7 +232,7 @@ def maximum(first, second):
 def total(curves):
     """The curve with the sum of all values everywhere."""
     if not curves:
-        return 0, (), (0,)
+        return ZERO
     start, common = reach(curves)
     rows = [increments(curve, start + common) for curve in curves]
     steps = tuple([sum(column) for column in zip(*rows)])

@@ -7,6 +7,8 @@ from plantrace.errors import BadPlant
 
 INPUTS = 0
 OUTPUTS = 1
+COST = 2
+DURATION = 3
 
 
 def check_plant(plant):
@@ -31,6 +33,24 @@ def places(plant, side):
         for row in stage[side]:
             found.setdefault(row[0], []).append(number)
     return found
+
+
+def reader_places(plant):
+    """For each buffer that is read the stage and the input that read it, in a right plant."""
+    return row_places(plant, INPUTS)
+
+
+def writer_places(plant):
+    """For each buffer that is written the stage and the output that write it, in a right plant."""
+    return row_places(plant, OUTPUTS)
+
+
+def row_places(plant, side):
+    """For each buffer the number of the stage and the place in it of its one input or output."""
+    return {
+        row[0]: (number, place) for number, stage in enumerate(plant)
+        for place, row in enumerate(stage[side])
+    }
 
 
 def buffers(plant):

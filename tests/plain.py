@@ -223,3 +223,147 @@ class Floor:
         """What the document calls the triple of the completion."""
         hands = tuple(tuple(len(queue) for queue in queues) for queues in self.queues)
         return tuple(self.cycles), tuple(sorted(self.totals.items())), hands
+
+
+def alone(plant, material, many):
+    """What so many units of one material alone allow, cycle by cycle: cycles by stage, totals by buffer."""
+    totals, cycles = {material: many}, {}
+    for number, (feeds, outputs, *_) in enumerate(plant):
+        mine = [feed for feed in feeds if feed[0] in totals]
+        if not mine:
+            continue
+        ran, used = 0, [0] * len(mine)
+        while True:
+            used = [units + step(feed[1], ran) for feed, units in zip(mine, used)]
+            if any(units > totals[feed[0]] + feed[2] for feed, units in zip(mine, used)):
+                break
+            ran += 1
+        cycles[number] = ran
+        totals.update({output[0]: value(output[1], ran) for output in outputs})
+    return cycles, totals
+
+
+class Story:
+    """Plant events that are run out reference by reference, by a picking rule."""
+
+    def __init__(self, plant, picks=()):
+        self.plant, self.picks = plant, picks
+        self.totals = {buffer: 0 for _, buffer in readers(plant) + writers(plant)}
+        self.cycles = [0] * len(plant)
+        self.queues = {
+            (s, i): [("initial", s, i, position + 1) for position in range(feed[2])]
+            for s, stage in enumerate(plant) for i, feed in enumerate(stage[0])
+        }
+        self.tools = dict.fromkeys(self.queues)
+        self.rows = []
+
+    def enter(self, buffer):
+        self.totals[buffer] += 1
+        for (s, i), queue in self.queues.items():
+            if self.plant[s][0][i][0] == buffer:
+                queue.append(("unit", buffer, self.totals[buffer]))
+
+    def next(self, queue):
+        """Takes the unit out of the queue that is to be taken next."""
+        place = 1
+        for elements, element in enumerate(self.picks, 1):
+            if elements == len(queue):
+                place = element
+        return queue.pop(place - 1)
+
+    def can_run(self, s):
+        feeds, n = self.plant[s][0], self.cycles[s]
+        return all(len(self.queues[s, i]) >= step(feed[1], n) for i, feed in enumerate(feeds))
+
+    def run(self, s):
+        feeds, outputs, *_ = self.plant[s]
+        n, held = self.cycles[s], []
+        for i, feed in enumerate(feeds):
+            took = [self.next(self.queues[s, i]) for _ in range(step(feed[1], n))]
+            if feed[3]:
+                self.tools[s, i] = took[-1] if took else self.tools[s, i]
+                held += [self.tools[s, i]] if self.tools[s, i] else []
+            else:
+                held += took
+        self.cycles[s] += 1
+        for buffer, production, _ in outputs:
+            for _ in range(step(production, n)):
+                self.enter(buffer)
+                self.rows.append((buffer, self.totals[buffer], s, n + 1, tuple(held)))
+
+    def play(self, event):
+        """True if the event can be made."""
+        if event[0] == "receive":
+            for _ in range(event[2]):
+                self.enter(event[1])
+        elif self.can_run(event[1]):
+            self.run(event[1])
+        else:
+            return False
+        return True
+
+    def contents(self):
+        """For each produced unit, as a reference, the set of the references that it contains."""
+        found = {}
+        for buffer, unit, _, _, held in self.rows:
+            inside = {("unit", buffer, unit)}
+            for part in held:
+                inside |= found.get(part, {part})
+            found["unit", buffer, unit] = inside
+        return found
+
+
+def ranges(numbers):
+    """The ranges of some numbers: a new one begins where the number below is missing."""
+    numbers = set(numbers)
+    firsts = sorted(number for number in numbers if number - 1 not in numbers)
+    lasts = sorted(number for number in numbers if number + 1 not in numbers)
+    return tuple(zip(firsts, lasts))
+
+
+class Yard:
+    """Makes states, with the plant events that led to them, and plant events of any kind."""
+
+    def __init__(self, maker):
+        self.maker = maker
+
+    def lot(self, plant):
+        return self.maker.choice(sorted(sources(plant))), self.maker.number(1, 12), self.maker.number(0, 100)
+
+    def small_run(self, story, s):
+        """True if the stage can run within 24 cycles and 24 units."""
+        outputs, n = story.plant[s][1], story.cycles[s]
+        fits = all(story.totals[output[0]] + step(output[1], n) <= 24 for output in outputs)
+        return story.can_run(s) and n < 24 and fits
+
+    def runs(self, story, most):
+        """Runs of runnable stages in any order, at most so many, which are played, too."""
+        told = []
+        for _ in range(most):
+            ready = [s for s in range(len(story.plant)) if self.small_run(story, s)]
+            if not ready:
+                break
+            told.append(("run", self.maker.choice(ready)))
+            story.play(told[-1])
+        return told
+
+    def state(self, plant):
+        """A state and its story, which is run out first in, first out."""
+        story, lots = Story(plant), []
+        for _ in range(self.maker.number(0, 4)):
+            lot = self.lot(plant)
+            if story.totals[lot[0]] + lot[1] <= 24:
+                lots.append(lot)
+                story.play(("receive", *lot[:2]))
+            self.runs(story, self.maker.choice((0, 1, 5, 99)))
+        return (plant, tuple(lots), tuple(story.cycles)), story
+
+    def events(self, plant, story):
+        """At most 24 plant events that the story can make, by its own picking rule."""
+        told = []
+        while len(told) < 20:
+            told.append(("receive", self.maker.choice(sorted(sources(plant))), self.maker.number(0, 12)))
+            story.play(told[-1])
+            for event in self.runs(story, self.maker.number(0, 4)):
+                told.append(event)
+        return tuple(told)

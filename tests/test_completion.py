@@ -8,19 +8,9 @@ from plantrace.inverses import lower_inverse, upper_inverse
 from plantrace.plants import buffers, materials
 from plantrace.stages import supports
 from tests.plain import Floor, Maker, upper, values
+from tests.samples import REST, STAGE, line
 
-PARTS, SCREWS = (0, (0, (), (1,)), 0, False), (1, (0, (), (2,)), 3, False)
-REST = ((0, (), (0,)), (0, (), (1,)), 1, (0, (), (1,)))
-STAGE = ((PARTS, SCREWS), ((2, (0, (0,), (1, 2)), 1),)) + REST
 LONG = lower_inverse((0, (), (20, 19, 18, 17)))
-
-
-def line(*flows):
-    """Stages behind one another, each with one input and one output: (consumption, stock, production)."""
-    return tuple(
-        (((number, consumption, stock, False),), ((number + 1, production, 1),)) + REST
-        for number, (consumption, stock, production) in enumerate(flows)
-    )
 
 
 class CompletedTest(unittest.TestCase):

@@ -4,6 +4,7 @@ import ast
 import builtins
 import keyword
 import pathlib
+import tokenize
 import unittest
 
 PACKAGE = pathlib.Path(__file__).resolve().parent.parent / "plantrace"
@@ -29,6 +30,10 @@ STATEMENTS = (
     ast.Assert, ast.Delete, ast.Try, ast.Expr, ast.FunctionDef, ast.ClassDef, ast.ImportFrom, ast.Nonlocal,
 )
 BARRED = set("mro elements open input law version_info with_traceback add_note register".split())
+WORDS = set(
+    "type typing typing_extensions enum Enum IntEnum StrEnum Flag IntFlag Generic Protocol ABC ABCMeta namedtuple "
+    "NamedTuple TypedDict TYPE_CHECKING abstractmethod dataclass overload contextmanager".split()
+)
 INTERFACE = {
     "errors": "PlantError BadPlant BadBill BoundedCurve TooMuch TooLarge CannotRun NoSuchUnit NotConvergent "
               "NothingToUndo",
@@ -42,6 +47,16 @@ INTERFACE = {
     "stages": "supports supported produced producing_cycle taken held use",
     "plants": "check_plant buffers materials products depends",
     "completion": "completed runnable is_balanced",
+    "capacity": "capacities cycle_capacities",
+    "requirements": "requirements shortages alone bottlenecks",
+    "chains": "slowest_path limiting_chain requirement_path meets",
+    "bills": "check_bill exploded buildable covers bill_plant",
+    "disruptions": "disrupted loss worst_receipts",
+    "states": "loaded is_state totals",
+    "records": "record",
+    "picking": "run_out waiting conflict",
+    "ranges": "ranges_of numbers_of",
+    "traces": "upstream downstream",
 }
 
 
@@ -143,6 +158,12 @@ class LanguageTest(unittest.TestCase):
                 self.assertNotIn(name, BARRED, where)
                 self.assertFalse(name.startswith("__"), where)
 
+    def test_words_that_are_not_used(self):
+        for path in FILES:
+            with tokenize.open(path) as rows:
+                tokens = list(tokenize.generate_tokens(rows.readline))
+            self.assertFalse({token.string for token in tokens if token.type == tokenize.NAME} & WORDS, path)
+
     def test_no_local_name_hides_an_import_or_a_class(self):
         for path, tree in trees():
             taken = {alias.name for node in tree.body if isinstance(node, ast.ImportFrom) for alias in node.names}
@@ -160,7 +181,9 @@ class LanguageTest(unittest.TestCase):
             self.assertLessEqual(used, BUILTINS, path)
             methods = {node.func.attr for node in ast.walk(tree)
                        if isinstance(node, ast.Call) and isinstance(node.func, ast.Attribute)}
-            self.assertLessEqual(methods, METHODS, path)
+            own = {row.name for node in tree.body if isinstance(node, ast.ClassDef)
+                   for row in node.body if isinstance(row, ast.FunctionDef)}
+            self.assertLessEqual(methods, METHODS | own, path)
 
     def test_each_name_is_bound_once_at_module_level(self):
         for path, tree in trees():

@@ -1,4 +1,4 @@
-"""Points 86 to 89: slowest paths, limiting chains, requirement paths, meeting a demand; 6 to 8 where they touch these."""
+"""Points 86 to 89: slowest paths, limiting chains, requirement paths, what meets a demand; 6 to 8 there."""
 
 import unittest
 from fractions import Fraction

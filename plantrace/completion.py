@@ -45,7 +45,7 @@ def totals_written(stage, many):
 
 def totals_behind(plant, receipts, cycles):
     """The totals of all buffers with these receipts when the stages have run these cycles."""
-    totals = received(plant, receipts)
+    totals = dict(received(plant, receipts))
     for stage, many in zip(plant, cycles):
         totals.update(totals_written(stage, many))
     return totals

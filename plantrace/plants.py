@@ -9,6 +9,8 @@ INPUTS = 0
 OUTPUTS = 1
 COST = 2
 DURATION = 3
+PARALLELISM = 4
+CALENDAR = 5
 
 
 def check_plant(plant):

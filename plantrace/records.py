@@ -23,8 +23,13 @@ def record(state, buffer, unit):
 
 def require_unit(state, buffer, unit):
     """Raises NoSuchUnit if the unit does not exist in the state."""
-    if unit > state_totals(state).get(buffer, 0):
+    if not exists(state, buffer, unit):
         raise NoSuchUnit(buffer, unit)
+
+
+def exists(state, buffer, unit):
+    """True if the unit exists in the state."""
+    return unit <= state_totals(state).get(buffer, 0)
 
 
 def lot_of(lots, material, unit):

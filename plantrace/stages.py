@@ -25,6 +25,12 @@ def produced(output, cycle):
     return numbers_at(production, cycle)
 
 
+def units_produced(output, cycle):
+    """The units that the cycle produces, ascending."""
+    _, production, _ = output
+    return numbers_within(production, cycle)
+
+
 def producing_cycle(output, unit):
     """The cycle that produces the unit."""
     _, production, _ = output
@@ -37,19 +43,30 @@ def taken(feed, cycle):
     return numbers_at(consumption, cycle)
 
 
+def positions_taken(feed, cycle):
+    """The positions that the cycle takes, ascending."""
+    _, consumption, _, _ = feed
+    return numbers_within(consumption, cycle)
+
+
 def numbers_at(flow, cycle):
     """The first and the last number by which the flow rises in the cycle, or None."""
     before, after = value(flow, cycle - 1), value(flow, cycle)
     return (before + 1, after) if before < after else None
 
 
+def numbers_within(flow, cycle):
+    """The numbers by which the flow rises in the cycle, ascending."""
+    return tuple(range(value(flow, cycle - 1) + 1, value(flow, cycle) + 1))
+
+
 def held(feed, cycle):
     """The positions that the cycle holds, ascending."""
     _, consumption, _, tool = feed
-    after = value(consumption, cycle)
-    if tool:
-        return (after,) if after > 0 else ()
-    return tuple(range(value(consumption, cycle - 1) + 1, after + 1))
+    if not tool:
+        return positions_taken(feed, cycle)
+    last = value(consumption, cycle)
+    return (last,) if last > 0 else ()
 
 
 def use(feed, position):

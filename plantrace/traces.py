@@ -5,7 +5,7 @@ The units of the buffers are dicts of dicts: buffer, unit, True.
 
 from plantrace.plants import INPUTS, OUTPUTS
 from plantrace.ranges import numbers_of, ranges_of
-from plantrace.stages import held, produced, producing_cycle
+from plantrace.stages import held, producing_cycle, units_produced
 from plantrace.states import last_unit
 
 
@@ -91,9 +91,7 @@ def holds_one(feed, cycle, units):
 def add_products(found, stage, cycle):
     """Adds the units that the cycle of the stage produces."""
     for output in stage[OUTPUTS]:
-        made = produced(output, cycle)
-        if made is not None:
-            add_units(found, output[0], numbers_of((made,)))
+        add_units(found, output[0], units_produced(output, cycle))
 
 
 def add_units(found, buffer, units):

@@ -313,6 +313,29 @@ class Story:
         return found
 
 
+def held_by(plant, s, n):
+    """The references that cycle n of stage s holds, position by position."""
+    for i, (buffer, consumption, stock, tool) in enumerate(plant[s][0]):
+        before, behind = value(consumption, n - 1), value(consumption, n)
+        for position in range(behind if tool else before + 1, behind + 1):
+            if position > 0:
+                yield ("initial", s, i, position) if position <= stock else ("unit", buffer, position - stock)
+
+
+def contained(plant, reference, found, cycles):
+    """Adds to what is found the reference and all that it contains, component by component."""
+    if reference in found:
+        return
+    found.add(reference)
+    made = {output[0]: (s, output[1]) for s, stage in enumerate(plant) for output in stage[1]}
+    if reference[0] == "unit" and reference[1] in made:
+        s, production = made[reference[1]]
+        n = lower(production, reference[2])
+        cycles.add((s, n))
+        for part in held_by(plant, s, n):
+            contained(plant, part, found, cycles)
+
+
 def ranges(numbers):
     """The ranges of some numbers: a new one begins where the number below is missing."""
     numbers = set(numbers)

@@ -57,7 +57,23 @@ INTERFACE = {
     "picking": "run_out waiting conflict",
     "ranges": "ranges_of numbers_of",
     "traces": "upstream downstream",
+    "impact": "check_convergent path impact_curves greatest_impact spread origin",
+    "inspections": "inspections exposure",
+    "faults": "causes is_possible is_scenario is_valid is_defective defective_units is_consistent each_scenario",
+    "diagnosis": "worst_cases recall suspects least_scenario explanations",
+    "hours": "finish next_open latest_start greatest_elapsed both_open any_open complement put_off",
+    "schedules": "earliest critical_chain is_feasible first_violation latest",
+    "deliveries": "buffer_capacities",
+    "costs": "apportioned unit_cost report",
+    "liability": "damage liabilities recall_cost worst_scenario",
+    "orders": "order_of dates earliest_due_date greatest_lateness shortfall expedited",
+    "tracker": "Tracker",
 }
+TRACKER = set(
+    "__init__ apply undo rehearse recall schedule order_dates affected_orders losses each_record replayed plant "
+    "original state observations orders sequence log __len__ __iter__ __contains__".split()
+)
+PROPERTIES = set("plant original state observations orders sequence log".split())
 
 
 def trees():
@@ -191,6 +207,37 @@ class LanguageTest(unittest.TestCase):
                      for name, _ in bound_names(node)]
             names += [node.name for node in tree.body if isinstance(node, (ast.FunctionDef, ast.ClassDef))]
             self.assertEqual(len(names), len(set(names)), path)
+
+    def test_the_methods_of_the_tracker_are_its_own(self):
+        tree = ast.parse((PACKAGE / "tracker.py").read_text())
+        tracker, = [node for node in tree.body if isinstance(node, ast.ClassDef)]
+        methods = {row.name: row for row in tracker.body if isinstance(row, ast.FunctionDef)}
+        self.assertEqual(tracker.bases, [])
+        self.assertLessEqual(TRACKER, set(methods))
+        decorators = {name: [mark.id for mark in row.decorator_list] for name, row in methods.items()}
+        wanted = {name: ["property"] if name in PROPERTIES else [] for name in methods}
+        self.assertEqual(decorators, {**wanted, "replayed": ["classmethod"]})
+
+    def test_decorators_stand_over_methods_of_the_tracker_alone(self):
+        for path, tree in trees():
+            marked = [node.name for node in ast.walk(tree)
+                      if isinstance(node, (ast.FunctionDef, ast.ClassDef)) and node.decorator_list]
+            self.assertTrue(path.stem == "tracker" or not marked, path)
+
+    def test_generators_are_iterated_at_once(self):
+        """A call of a generator stands in the head of a for or behind `yield from`."""
+        functions = [node for _, tree in trees() for node in ast.walk(tree) if isinstance(node, ast.FunctionDef)]
+        names = [node.name for node in functions]
+        generators = {node.name for node in functions if any(isinstance(row,
+            (ast.Yield, ast.YieldFrom)) for row in ast.walk(node))}
+        self.assertEqual(generators, {"each_scenario", "each_choice", "each_record"})
+        self.assertTrue(all(names.count(name) == 1 for name in generators))
+        for path, tree in trees():
+            heads = [node.iter for node in ast.walk(tree) if isinstance(node, ast.For)]
+            heads += [node.value for node in ast.walk(tree) if isinstance(node, ast.YieldFrom)]
+            used = [node for node in ast.walk(tree) if isinstance(node, ast.Name) and node.id in generators]
+            called = [head.func for head in heads if isinstance(head, ast.Call)]
+            self.holds((path.name, node.lineno) for node in used if node not in called)
 
     def test_the_interface_is_defined_where_it_is_listed(self):
         for stem, names in INTERFACE.items():

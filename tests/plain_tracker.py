@@ -7,8 +7,6 @@ from tests.plain import Floor, Story, is_normal_sequence, sources, step
 from tests.plain_faults import EXONERATING, History, Known
 from tests.plain_schedules import Clock, plain_products
 
-NONE = {"receive": None, "disrupt": False, "order": None, "expedite": None, "observe": False}
-
 
 def changed_curve(curve, cycle, amount):
     """The curve with one increment greater, in normal form: the shortest one with these increments."""

@@ -12,7 +12,6 @@ from tests.samples import EACH, SHOP, line, stage
 
 ARRIVALS = ((0, (0, 0, 0, 0, 0, 0)), (1, (1, 1)))
 ZERO = (0, (), (0,))
-NONE = (0, ())
 
 
 def with_times(plant, duration=EACH, parallelism=1, opening=EACH):
